@@ -1381,7 +1381,7 @@ func (r *script) checkFold(list []impl.Frame) {
 
 // wholeRun feeds events that come in order from each of two connections, a few in each round, and
 // then goes on until it is drained.
-func wholeRun(t *testing.T, s impl.Setup, seed int) {
+func wholeRun(t *testing.T, s impl.Setup, seed int) *script {
 	t.Helper()
 	r := aScript(t, func(to *impl.Setup) { *to = s })
 	r.done(opOpen(), opOpen())
@@ -1408,6 +1408,7 @@ func wholeRun(t *testing.T, s impl.Setup, seed int) {
 		t.Fatalf("%v: it is not drained: %+v", opsText(r.ops), r.e)
 	}
 	r.checkFold(all)
+	return r
 }
 
 func TestWholeRuns(t *testing.T) {
